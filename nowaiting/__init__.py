@@ -1,0 +1,1 @@
+"""An object that many change without waiting."""
