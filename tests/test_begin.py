@@ -4,7 +4,7 @@ import unittest
 
 from tests.helper import (
     GREATEST, LEAST, NOT_NOW, OK, PUTS, STATES, WRONG,
-    ask, begin, calls_to, do, do_in, record, record_in, shown, wrote, wrote_in,
+    ask, begin, calls_later_to, calls_to, do, do_in, go_on, look, record, record_in, shown, wrote, wrote_in,
 )
 
 
@@ -47,6 +47,15 @@ class Begin(unittest.TestCase):
                     self.assertEqual(ask(*before, refused, wrote(0))[-2:], [WRONG, wrote_in(state)])
                     self.assertEqual(ask(*before, refused, do(0))[-2:], [WRONG, do_in(state)])
 
+    def test_a_refusal_leaves_all_that_a_process_keeps(self):
+        for state in STATES:
+            for refused in (begin(0, 1, 1), begin(0, 3, 3), begin(0, -1, 8), begin(0, 0, 9)):
+                with self.subTest(state=state, refused=refused):
+                    before = calls_later_to(state)
+                    answered = ask(*before, refused, *look(), *go_on())
+                    self.assertEqual(answered.pop(len(before)), WRONG)
+                    self.assertEqual(answered, ask(*before, *look(), *go_on()))
+
     def test_a_refusal_leaves_me_and_n(self):
         calls = [begin(0, 1, 2), begin(0, 0, 9), do(0, 1, 2, 3, 4), record(0), wrote(0)]
         self.assertEqual(ask(*calls), [OK, WRONG, OK, shown(1, 1, 1, 2, 3, 4), [16]])
@@ -59,6 +68,18 @@ class Begin(unittest.TestCase):
                 ]
                 wanted = [OK, NOT_NOW, NOT_NOW, OK, shown(3, 1, 3, 15, 1, 2), [16]]
                 self.assertEqual(ask(*calls)[-6:], wanted)
+
+    def test_begun_anew_nothing_is_left_of_what_it_kept(self):
+        for state in STATES:
+            with self.subTest(state=state):
+                before = calls_later_to(state)
+                anew = [begin(0, 1, 3), *look(), *go_on()]
+                self.assertEqual(ask(*before, *anew)[len(before):], ask(*anew))
+
+    def test_begun_it_has_no_answer_and_no_cell_behind_it_and_its_values_are_0(self):
+        for me, n in ((0, 2), (1, 2), (0, 8), (7, 8)):
+            with self.subTest(me=me, n=n):
+                self.assertEqual(ask(begin(0, me, n), *look()), [OK, NOT_NOW, [0], NOT_NOW] + [[0, 0]] * 16)
 
     def test_begun_anew_with_the_same_numbers_its_count_is_0_again(self):
         calls = [begin(0, 0, 2), do(0), wrote(0), begin(0, 0, 2), do(0, 1, 1, 1, 1), record(0), wrote(0)]

@@ -5,7 +5,7 @@ import unittest
 from nowaiting.member import Member
 from tests.helper import (
     GREATEST, GREATEST_64, LEAST, NOT_NOW, OK, STATES, WRONG,
-    ask, begin, calls_to, do, do_in, record, record_in, shown, wrote, wrote_in,
+    ask, begin, calls_later_to, calls_to, do, do_in, go_on, look, record, record_in, shown, wrote, wrote_in,
 )
 
 
@@ -51,6 +51,18 @@ class Do(unittest.TestCase):
                 self.assertEqual(ask(*before, again, record(0))[-2:], [NOT_NOW, record_in(state)])
                 self.assertEqual(ask(*before, again, wrote(0))[-2:], [NOT_NOW, wrote_in(state)])
 
+    def test_a_refusal_leaves_all_that_a_process_keeps(self):
+        for state in STATES:
+            refusals = [(do(0, 4, 0), WRONG), (do(0, 0, 16), WRONG), (do(0, -1, 0), WRONG), (do(0, 0, -1), WRONG)]
+            if state != "idle":
+                refusals.append((do(0, 1, 3, 11, 12), NOT_NOW))
+            for refused, why in refusals:
+                with self.subTest(state=state, refused=refused):
+                    before = calls_later_to(state)
+                    answered = ask(*before, refused, *look(), *go_on())
+                    self.assertEqual(answered.pop(len(before)), why)
+                    self.assertEqual(answered, ask(*before, *look(), *go_on()))
+
     def test_a_refusal_does_not_count(self):
         calls = [begin(0, 0, 2), do(0, 4, 0), do(0, 0, 16), do(0, 0, 0), record(0), do(0, 0, 0), record(0)]
         first = shown(0, 1, 0, 0, 0, 0)
@@ -58,7 +70,7 @@ class Do(unittest.TestCase):
 
 
 class Counts(unittest.TestCase):
-    """No process is idle a second time by these calls alone, so its greater counts are set here."""
+    """No list of calls comes to the greatest counts, so they are set here."""
 
     def assert_next_count(self, count, wanted):
         member = Member(1, 2)

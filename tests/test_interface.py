@@ -10,7 +10,8 @@ import unittest
 import nowaiting
 from nowaiting.process import answers
 from tests.helper import (
-    GREATEST_64, NOT_NOW, OK, PUTS, WRONG, ask, begin, do, laid_out, record, shown, taken_apart, wrote,
+    ADD, ANSWERED, GREATEST_64, NOBODYS, NOT_NOW, OK, PUTS, WRONG, OneByOne,
+    answer, ask, begin, do, got, laid_out, look, place, record, shown, taken_apart, value, wrote,
 )
 
 PACKAGE = pathlib.Path(nowaiting.__file__).parent
@@ -35,6 +36,19 @@ def calls_of(which):
     own = shown(me, 1, which % 4, which, which, GREATEST_64)
     wanted = [OK, NOT_NOW, WRONG, OK, own, NOT_NOW]
     wanted += [PUTS, NOT_NOW, WRONG, own] if me == 0 else [[16], NOT_NOW, WRONG, NOT_NOW]
+    # Read, write, add, swap: the sixteen values are 0 still, so that a write or an add alone changes one.
+    answered = which if which % 4 == 2 else 0
+    left = which if which % 4 in (1, 2) else 0
+    calls += [record(which) if me == 0 else got(which, NOBODYS), place(which), answer(which)]
+    calls += [got(which, (me + 1, 1, 16 * (which % 4) + which, which, GREATEST_64)), answer(which)]
+    calls += [place(which), value(which, which), value(which, 16), got(which, NOBODYS)]
+    wanted += [own if me == 0 else PUTS, [0], NOT_NOW, ANSWERED, [0, answered], [1], [0, left], WRONG, NOT_NOW]
+    calls += [do(which, ADD, which, 100), wrote(which), record(which) if me == 1 else got(which, NOBODYS)]
+    calls += [got(which, (me + 1, 2, 16 * ADD + which, 100 + which, 0)), answer(which), place(which)]
+    wanted += [OK] + ([PUTS, shown(me, 2, ADD, which, 100, 0)] if me == 1 else [[17], PUTS])
+    wanted += [ANSWERED, [0, left + 100 + which], [2]]
+    calls += [value(which, key) for key in range(16)]
+    wanted += [[0, left + 100 + which if key == which else 0] for key in range(16)]
     return calls, wanted
 
 
@@ -45,20 +59,20 @@ def in_turns(rows):
 EVERY_CALL = laid_out(in_turns([calls_of(which)[0] for which in range(8)]))
 
 
-class OneByOne(unittest.TestCase):
-    def assert_each_equal(self, given, wanted):
-        """Compare answer by answer: unittest takes very long to tell long lists apart."""
-        self.assertEqual(len(given), len(wanted))
-        for at in range(len(wanted)):
-            self.assertEqual(given[at], wanted[at], "answer %d" % at)
-
-
 class Answers(OneByOne):
     def test_each_answer_has_its_length_before_it(self):
         calls = [0, 0, 0, 2, 1, 0, 1, 2, 3, 4, 2, 0, 3, 0, 3, 0, 0, 0, 2, 2]
         own = [1, 0, 0, 0, 0, 0, 0, 0] + [1, 0, 0, 0, 0, 0, 0, 0] + [18, 0, 0, 0, 0, 0, 0, 0]
         own += [3, 0, 0, 0, 0, 0, 0, 0] + [4, 0, 0, 0, 0, 0, 0, 0]
         self.assertEqual(answers(calls), [1, 0, 1, 0, 41, 0] + own + [1, 64, 1, -4, 1, -2])
+
+    def test_each_answer_of_the_later_calls_has_its_length_before_it(self):
+        own = [1, 0, 0, 0, 0, 0, 0, 0] + [1, 0, 0, 0, 0, 0, 0, 0] + [18, 0, 0, 0, 0, 0, 0, 0]
+        own += [3, 0, 0, 0, 0, 0, 0, 0] + [4, 0, 0, 0, 0, 0, 0, 0]
+        calls = [0, 0, 0, 2, 4, 0, 40] + own + [5, 0, 6, 0, 7, 0, 16, 1, 0, 1, 2, 3, 4, 3, 0]
+        calls += [4, 0, 40] + own + [6, 0, 7, 0, 2, 7, 0, 3, 5, 0]
+        wanted = [1, 0, 1, -4, 1, 0, 1, -4, 1, -2, 1, 0, 1, 64, 1, 32, 2, 0, 0, 2, 0, 3, 2, 0, 0, 1, 1]
+        self.assertEqual(answers(calls), wanted)
 
     def test_it_gives_back_a_list_of_whole_numbers(self):
         given = answers(EVERY_CALL)
@@ -68,6 +82,14 @@ class Answers(OneByOne):
     def test_400_calls(self):
         calls = [begin(0, 0, 2), do(0, 1, 2, 3, 4)] + [record(0)] * 398
         self.assert_each_equal(ask(*calls), [OK, OK] + [shown(0, 1, 1, 2, 3, 4)] * 398)
+
+    def test_16000_numbers(self):
+        """2 processes, 371 records handed in, and what is left of the 16000 filled with uo_do and uo_value."""
+        calls = [begin(0, 0, 2), do(0), wrote(0)] + [got(0, NOBODYS)] * 371 + [do(0)] * 5 + [value(0, 3)]
+        calls += [place(0)]
+        self.assertEqual(len(laid_out(calls)), 16000)
+        wanted = [OK, OK] + [PUTS, [17], PUTS] * 124 + [NOT_NOW] * 5 + [[0, 0], [247]]
+        self.assert_each_equal(ask(*calls), wanted)
 
 
 class Objects(OneByOne):
@@ -114,6 +136,9 @@ class LeftAsItWas(OneByOne):
     def test_nothing_is_kept_from_one_time_to_the_next(self):
         answers(laid_out([begin(0, 0, 2), do(0)]))
         self.assertEqual(ask(begin(0, 0, 9), begin(0, 0, 2), record(0)), [WRONG, OK, NOT_NOW])
+        answers(EVERY_CALL)
+        untouched = [[0], NOT_NOW] + [[0, 0]] * 16
+        self.assertEqual(ask(begin(7, 1, 2), *look(7)), [OK, NOT_NOW] + untouched)
         answers(laid_out([begin(0, 0, 2), do(0)]))
         with self.assertRaises(Exception):
             answers(record(0))

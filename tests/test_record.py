@@ -2,8 +2,10 @@
 
 import unittest
 
-from nowaiting.member import Member
-from tests.helper import NOT_NOW, OK, PUTS, STATES, ask, begin, calls_to, do, record, record_in, shown, wrote, wrote_in
+from tests.helper import (
+    NOBODYS, NOT_NOW, OK, PUTS, STATES,
+    ask, begin, calls_later_to, calls_to, do, go_on, got, look, record, record_in, shown, wrote, wrote_in,
+)
 
 
 class Record(unittest.TestCase):
@@ -51,11 +53,25 @@ class Record(unittest.TestCase):
         self.assertEqual(ask(begin(0, 1, 2), do(0), wrote(0), record(0)), [OK, OK, [16], NOT_NOW])
 
     def test_putting_it_shows_its_candidate(self):
-        """By these calls alone a candidate is its own record, so another's is put here."""
-        member = Member(1, 2)
-        member.do(2, 3, 4, 5)
-        member.put((1, 77, 16, 8, 9))
-        self.assertEqual(member.show_record(), shown(0, 77, 1, 0, 8, 9))
+        calls = [begin(0, 1, 2), do(0, 2, 3, 4, 5), record(0), wrote(0), got(0, (1, 77, 16, 8, 9)), record(0)]
+        self.assertEqual(ask(*calls)[2:], [shown(1, 1, 2, 3, 4, 5), [16], PUTS, shown(0, 77, 1, 0, 8, 9)])
+
+    def test_putting_its_own_at_a_turn_of_anothers(self):
+        calls = [begin(0, 1, 2), do(0, 2, 3, 4, 5), wrote(0), got(0, NOBODYS), record(0)]
+        self.assertEqual(ask(*calls)[2:], [[16], PUTS, shown(1, 1, 2, 3, 4, 5)])
+
+    def test_telling_anew_it_shows_its_new_record(self):
+        calls = [begin(0, 1, 2), do(0, 2, 3, 4, 5), wrote(0), got(0, (1, 77, 16, 8, 9)), got(0, (2, 1, 35, 4, 5))]
+        calls += [record(0), do(0, 3, 4, 5, 6), record(0)]
+        self.assertEqual(ask(*calls)[4:], [[32], NOT_NOW, OK, shown(1, 2, 3, 4, 5, 6)])
+
+    def test_it_leaves_all_that_a_process_keeps(self):
+        for state in STATES:
+            with self.subTest(state=state):
+                before = calls_later_to(state)
+                answered = ask(*before, record(0), *look(), *go_on())
+                answered.pop(len(before))
+                self.assertEqual(answered, ask(*before, *look(), *go_on()))
 
 
 if __name__ == "__main__":

@@ -3,7 +3,10 @@
 import unittest
 
 from nowaiting.member import Member
-from tests.helper import NOT_NOW, OK, PUTS, STATES, ask, begin, calls_to, do, record, record_in, wrote, wrote_in
+from tests.helper import (
+    NOT_NOW, OK, PUTS, STATES,
+    ask, begin, calls_later_to, calls_to, do, go_on, look, record, record_in, wrote, wrote_in,
+)
 
 
 class Wrote(unittest.TestCase):
@@ -25,6 +28,20 @@ class Wrote(unittest.TestCase):
                 wanted = [NOT_NOW, NOT_NOW, record_in(state)]
                 self.assertEqual(ask(*calls_to(state), wrote(0), wrote(0), record(0))[-3:], wanted)
 
+    def test_a_refusal_leaves_all_that_a_process_keeps(self):
+        for state in ("idle", "asks", "puts"):
+            with self.subTest(state=state):
+                before = calls_later_to(state)
+                answered = ask(*before, wrote(0), *look(), *go_on())
+                self.assertEqual(answered.pop(len(before)), NOT_NOW)
+                self.assertEqual(answered, ask(*before, *look(), *go_on()))
+
+    def test_it_changes_no_value_no_answer_and_no_place(self):
+        for calls in (calls_to, calls_later_to):
+            before = calls("tells")
+            kept = look()[1:]
+            self.assertEqual(ask(*before, wrote(0), *kept)[-18:], ask(*before, *kept)[-18:])
+
     def test_asking_or_putting_it_is_not_idle(self):
         for state in ("asks", "puts"):
             with self.subTest(state=state):
@@ -32,7 +49,7 @@ class Wrote(unittest.TestCase):
 
 
 class LaterCells(unittest.TestCase):
-    """By these calls alone a process stays at cell 0, so its place is set here."""
+    """It may come to tell at any cell, also where no list of calls leads, so its place is set here."""
 
     def telling(self, me, n, place):
         member = Member(me, n)
