@@ -4,7 +4,7 @@ import unittest
 
 from nowaiting.member import Member
 from tests.helper import (
-    ADD, ANSWERED, GREATEST_64, NOBODYS, NOT_NOW, OK, PUTS, READ, SWAP, WRITE,
+    ADD, ANSWERED, GREATEST_64, NOBODYS, NOT_NOW, OK, PUTS, READ, WRITE,
     answer, ask, begin, bytes_of, do, got, look, place, record, shown, value, wrote,
 )
 
